@@ -1,0 +1,1 @@
+"""A directory of points: towns, streets, boxes, and the places where letters are handed over."""
