@@ -2,7 +2,8 @@
 
 from pointbook.intervals import Intervals
 from pointbook.lines import read_line, signs_of
-from pointbook.points import Run, point_of
+from pointbook.points import NO_STREET, Run, point_of, turned
+from pointbook.towns import Street, Town
 
 MOST_LINES = 4096
 MOST_POINTS = 65536
@@ -15,56 +16,6 @@ CANNOT_STAND = 3
 CLASHES = 4
 
 
-class Town:
-    """What later lines of a town are judged by: its codes, and its boxes with the runs that hold them."""
-
-    def __init__(self):
-        self.codes = {}
-        self.boxes = Intervals()
-
-
-class Street:
-    """What later lines of a street are judged by: its numbers with the runs that hold them, and its letters.
-
-    Even and odd numbers are kept apart, halved, so that the numbers of every side have no gaps.
-    """
-
-    def __init__(self):
-        self.halves = [Intervals(), Intervals()]
-        self.letters = {}
-
-    def span_run_of(self, number):
-        """The span's run that has this number; None if none has."""
-        return self.halves[number % 2].holder_of(number // 2)
-
-    def has_some_number(self, line):
-        """Whether a number of this span is there already."""
-        return any([self.halves[half[0]].meets(half[1], half[2]) for half in halves_of(line)])
-
-    def add_span(self, line, run):
-        for half in halves_of(line):
-            self.halves[half[0]].add(half[1], half[2], run)
-
-    def has_some_letter(self, line):
-        """Whether the number has one of these letters already."""
-        return any([(line.number, letter) in self.letters for letter in range(line.low, line.high + 1)])
-
-    def add_letters(self, line):
-        for letter in range(line.low, line.high + 1):
-            self.letters[(line.number, letter)] = True
-
-
-def halves_of(line):
-    """A span's even numbers, its odd numbers, if it has such: each (0 or 1, the lowest and the highest halved)."""
-    halves = []
-    for odd in (0, 1):
-        low = (line.low + 1 - odd) // 2
-        high = (line.high - odd) // 2
-        if low <= high and (line.step == 1 or line.low % 2 == odd):
-            halves.append((odd, low, high))
-    return halves
-
-
 class Book:
     """A directory: the lines taken so far."""
 
@@ -72,6 +23,8 @@ class Book:
         self.text = []
         self.line_count = 0
         self.counts = {"town": 0, "code": 0, "street": 0, "span": 0, "letters": 0, "boxes": 0}
+        self.towns = []
+        self.streets = []
         self.town = None
         self.street = None
         self.walks = {}
@@ -146,25 +99,27 @@ class Book:
         self.line_count += 1
         self.counts[line.kind] += 1
         if line.kind == "town":
-            self.town = Town()
+            self.town = Town(line.names)
+            self.towns.append(self.town)
             self.street = None
         elif line.kind == "code":
             self.town.codes[line.code] = True
         elif line.kind == "street":
-            self.street = Street()
+            self.street = Street(line.names, len(self.towns) - 1)
+            self.streets.append(self.street)
         else:
             self.add_points(line)
 
     def add_points(self, line):
         """Takes up the points that a line of a span, letters or boxes brings."""
-        street = -1 if line.kind == "boxes" else self.counts["street"] - 1
-        run = Run(line, self.counts["town"] - 1, street, self.point_count)
+        street = NO_STREET if line.kind == "boxes" else len(self.streets) - 1
+        run = Run(line, len(self.towns) - 1, street, self.point_count)
         if line.kind == "span":
             self.street.add_span(line, run)
             self.add_places(line, run)
         elif line.kind == "letters":
             run.span_run = self.street.span_run_of(line.number)
-            self.street.add_letters(line)
+            self.street.add_letters(line, run)
         else:
             self.town.boxes.add(line.low, line.high, run)
             self.add_places(line, run)
@@ -182,3 +137,35 @@ class Book:
         if run is None:
             return None
         return point_of(run, i)
+
+    def find_point(self, town, street, number, letter):
+        """The number of the point of this town, street, number and letter; None if there's none."""
+        if street >= len(self.streets) or self.streets[street].town != town:
+            return None
+        return self.streets[street].find_point(number, letter)
+
+    def find_box(self, town, number):
+        """The number of the point that is the town's box of this number; None if there's none."""
+        if town >= len(self.towns):
+            return None
+        return self.towns[town].find_box(number)
+
+    def walk_points(self, walk):
+        """The numbers of a walk's points, in the walk's order."""
+        found = []
+        if walk in self.walks:
+            # The runs of a walk are kept by rising places, and no two have places between one another's.
+            for run in self.walks[walk].holders:
+                found.extend(self.run_points(run))
+        return found
+
+    def run_points(self, run):
+        """The numbers of the points at a span's or boxes' places, in the walk's order, letters behind their number."""
+        line = run.line
+        found = []
+        for step in range(line.point_count):
+            offset = turned(line, step)
+            found.append(run.begin + offset)
+            if run.street != NO_STREET:
+                found.extend(self.streets[run.street].lettered_points(line.low + offset * line.step))
+        return found

@@ -11,6 +11,7 @@ MOST_DIGITS = 6
 
 NO_NUMBER = -1
 NO_LETTER = 0
+LETTERS = "abcdefghijklmnopqrstuvwxyz"
 
 
 class Line:
@@ -18,6 +19,7 @@ class Line:
 
     def __init__(self, kind):
         self.kind = kind
+        self.names = []
         self.code = ""
         self.number = 0
         self.low = 0
@@ -32,7 +34,7 @@ class Line:
 def signs_of(text):
     """The bytes as signs; a byte that may stand in no line becomes a `?`, which may stand in none either."""
     signs = "?" * 10 + "\n" + "?" * 21 + " " + "?" * 15 + "0123456789" + "?" * 39
-    signs = signs + "abcdefghijklmnopqrstuvwxyz" + "?" + "|" + "?" * 131
+    signs = signs + LETTERS + "?" + "|" + "?" * 131
     return "".join([signs[byte] for byte in text])
 
 
@@ -71,7 +73,9 @@ def read_names(kind, told):
             return None
     if words_in_name == 0:
         return None
-    return Line(kind)
+    line = Line(kind)
+    line.names = " ".join(told).split(" | ")
+    return line
 
 
 def read_code(told):
@@ -171,3 +175,8 @@ def read_letter(word):
     if len(word) != 1 or not word.isalpha():
         return NO_LETTER
     return ord(word) - ord("a") + 1
+
+
+def letter_sign(letter):
+    """The sign of a letter told as 1 for a to 26 for z; nothing for NO_LETTER."""
+    return "" if letter == NO_LETTER else LETTERS[letter - 1]

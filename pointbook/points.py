@@ -1,5 +1,7 @@
 """Points, and the runs of them that single lines bring."""
 
+NO_STREET = -1
+
 
 class Run:
     """The points that one line of a span, letters or boxes brings, one behind another."""
@@ -13,7 +15,7 @@ class Run:
 
 
 class Point:
-    """Where letters are handed over; the street of a box is -1, no letter is 0."""
+    """Where letters are handed over; the street of a box is NO_STREET, no letter is 0."""
 
     def __init__(self, town, street, number):
         self.town = town
@@ -38,15 +40,28 @@ def point_at(run, offset):
     point = Point(run.town, run.street, line.low + offset * line.step)
     point.code = line.code
     point.walk = line.walk
-    point.place = line.first + offset
-    if line.back:
-        point.place = line.first + line.point_count - 1 - offset
+    point.place = line.first + turned(line, offset)
     return point
+
+
+def turned(line, offset):
+    """How many of a span or boxes stand in the walk before the one with so many lower numbers; or the other way."""
+    return line.point_count - 1 - offset if line.back else offset
+
+
+def offset_of(line, number):
+    """How many numbers of a span or boxes are lower than this number, which must be one of theirs."""
+    return (number - line.low) // line.step
+
+
+def index_of(run, number):
+    """The number of the point of a span's or boxes' run that has this number, which must be one of the run's."""
+    return run.begin + offset_of(run.line, number)
 
 
 def lettered_point(run, offset):
     """The point of a letters' run that has so many of the run's before it: its number's, but for the letter."""
-    span_line = run.span_run.line
-    point = point_at(run.span_run, (run.line.number - span_line.low) // span_line.step)
+    number = run.line.number
+    point = point_at(run.span_run, offset_of(run.span_run.line, number))
     point.letter = run.line.low + offset
     return point

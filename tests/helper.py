@@ -36,6 +36,26 @@ def point(i):
     return [4, i]
 
 
+def find(town, street, number, letter):
+    return [5, town, street, number, letter]
+
+
+def box(town, number):
+    return [6, town, number]
+
+
+def walk(w):
+    return [7, w]
+
+
+def name(what, i, j):
+    return [8, what, i, j]
+
+
+def parts(i):
+    return [9, i]
+
+
 def apart(told):
     """The answers, each a list of its own."""
     found = []
@@ -75,12 +95,23 @@ def point_answer(town, street, number, letter, walk, place, code):
     return [0, town, street, number, letter, walk, place, len(code)] + as_bytes(code)
 
 
+def text_answer(told):
+    """A text as it is answered: how many bytes it has, then they."""
+    return [len(told)] + as_bytes(told)
+
+
+def find_by(answer):
+    """The call, find or box, that asks for the point of which point answered this."""
+    town, street, number, letter = answer[1:5]
+    return box(town, number) if street == -1 else find(town, street, number, letter)
+
+
 WORD = rb"[a-z0-9]{1,32}"
 NAME = WORD + rb"(?: " + WORD + rb"){0,7}"
 NUMBER = rb"(0|[1-9][0-9]*)"
 STRETCH = NUMBER + rb" " + NUMBER + rb" ([a-z0-9]{1,12}) " + NUMBER + rb" " + NUMBER
 FORMS = [
-    ("names", re.compile(rb"(town|street) " + NAME + rb"(?: \| " + NAME + rb")*")),
+    ("names", re.compile(rb"(town|street) (" + NAME + rb"(?: \| " + NAME + rb")*)")),
     ("code", re.compile(rb"code ([a-z0-9]{1,12})")),
     ("span", re.compile(rb"span (all|odd|even) " + STRETCH + rb"( back)?")),
     ("letters", re.compile(rb"letters " + NUMBER + rb" ([a-z]) ([a-z])")),
@@ -100,6 +131,7 @@ class PlainJudge:
         self.street = -1
         self.street_begun = False
         self.codes = []
+        self.names = {"town": [], "street": []}
         self.kinds = []
         self.places = set()
         self.fault = None
@@ -140,17 +172,18 @@ class PlainJudge:
         return (len(self.kinds) > 4096 or len(self.points) > 65536
                 or any(self.kinds.count(kind) > most[kind] for kind in most))
 
-    def judge_head(self, kind, code):
-        if kind == "code" and (self.town, code) in self.codes:
+    def judge_head(self, kind, said):
+        if kind == "code" and (self.town, said) in self.codes:
             return CLASHES
         if kind == "code":
-            self.codes.append((self.town, code))
-        elif kind == "town":
+            self.codes.append((self.town, said))
+            return 0
+        self.names[kind].append(said.split(" | "))
+        if kind == "town":
             self.town += 1
-            self.street_begun = False
         else:
             self.street += 1
-            self.street_begun = True
+        self.street_begun = kind == "street"
         return 0
 
     def judge_stretch(self, kind, numbers, code, walk, first, back):
@@ -180,7 +213,29 @@ class PlainJudge:
 
     def sizes(self):
         kinds = ("town", "street", "code", "span", "letters", "boxes")
-        return [self.kinds.count(kind) for kind in kinds] + [len(self.points), len({p[4] for p in self.points})]
+        return [self.kinds.count(kind) for kind in kinds] + [len(self.points), len(self.walks())]
+
+    def walks(self):
+        return sorted({p[4] for p in self.points})
+
+    def find(self, town, street, number, letter):
+        """The number of the point that is this; -3 if none is. A box's street is -1."""
+        wanted = (town, street, number, letter)
+        found = [i for i, p in enumerate(self.points) if p[:4] == wanted]
+        assert len(found) <= 1
+        return found[0] if found else -3
+
+    def walk(self, w):
+        """The numbers of the walk's points: by place, then the one without a letter, then by letter."""
+        there = [(p[5], p[3], i) for i, p in enumerate(self.points) if p[4] == w]
+        return [i for place, letter, i in sorted(there)]
+
+    def parts(self, i):
+        town, street, number, letter, code = (self.points[i][k] for k in (0, 1, 2, 3, 6))
+        told = f"box {number}\n"
+        if street != -1:
+            told = f"number {number}{chr(96 + letter) if letter else ''}\nstreet {self.names['street'][street][0]}\n"
+        return told + f"town {self.names['town'][town][0]}\ncode {code}\n"
 
 
 def said_by(row):
@@ -194,7 +249,7 @@ def said_by(row):
 
 def in_bounds(kind, parts):
     if kind == "names":
-        return (parts[0], "")
+        return (parts[0], parts[1])
     if kind == "code":
         return ("code", parts[0])
     if kind == "letters":

@@ -3,41 +3,22 @@
 import unittest
 
 from pointbook.directory import Holder
-from tests.helper import (CANNOT_STAND, CLASHES, NOT_FORMED, TOO_MUCH, as_bytes, ask, fault, more, point, point_answer,
-                          points_of, sizes, take, text)
+from tests.helper import (CANNOT_STAND, CLASHES, NOT_FORMED, TOO_MUCH, as_bytes, ask, box, fault, find, more, name,
+                          parts, point, point_answer, points_of, sizes, take, text, text_answer, walk)
+from tests.sample import WHOLE, WHOLE_POINTS, WHOLE_SIZES
 
 NO_SIZES = [0] * 9
-WHOLE = ("town alt dorf | dorf\ncode 12a\ncode 0\nstreet main street | high street\nspan odd 1 5 12a 7 100\n"
-         "letters 3 b c\nspan even 2 6 0 8 0 back\nboxes 10 12 0 7 50\nstreet lane\nspan all 3 4 12a 7 200 back\n"
-         "town neu\ncode 12a\nboxes 999999 999999 12a 9999 900000\nstreet lane\nspan all 9 9 12a 8 3\nletters 9 z z\n")
-WHOLE_POINTS = [
-    point_answer(0, 0, 1, 0, 7, 100, "12a"),
-    point_answer(0, 0, 3, 0, 7, 101, "12a"),
-    point_answer(0, 0, 5, 0, 7, 102, "12a"),
-    point_answer(0, 0, 3, 2, 7, 101, "12a"),
-    point_answer(0, 0, 3, 3, 7, 101, "12a"),
-    point_answer(0, 0, 2, 0, 8, 2, "0"),
-    point_answer(0, 0, 4, 0, 8, 1, "0"),
-    point_answer(0, 0, 6, 0, 8, 0, "0"),
-    point_answer(0, -1, 10, 0, 7, 50, "0"),
-    point_answer(0, -1, 11, 0, 7, 51, "0"),
-    point_answer(0, -1, 12, 0, 7, 52, "0"),
-    point_answer(0, 1, 3, 0, 7, 201, "12a"),
-    point_answer(0, 1, 4, 0, 7, 200, "12a"),
-    point_answer(1, -1, 999999, 0, 9999, 900000, "12a"),
-    point_answer(1, 2, 9, 0, 8, 3, "12a"),
-    point_answer(1, 2, 9, 26, 8, 3, "12a"),
-]
-WHOLE_SIZES = [0, 2, 3, 3, 4, 2, 2, 16, 3]
-
-
-def text_answer(told):
-    return [len(told)] + as_bytes(told)
 
 
 def look():
     """The calls that show what is held."""
-    return [text(), sizes()] + [point(i) for i in range(20)]
+    return ([text(), sizes()] + [point(i) for i in range(20)] + [parts(i) for i in (0, 3, 10, 11, 13, 15, 16)]
+            + [walk(w) for w in (0, 1, 7, 8, 9999)] + [find(0, 0, 3, 0), find(0, 0, 3, 2), find(1, 2, 9, 26)]
+            + [find(1, 2, 9, 1), find(1, 2, 9, 2), find(1, 2, 1, 0), box(0, 11), box(1, 1), box(1, 999999)]
+            + [name(what, i, j) for what in (0, 1) for i in (0, 1, 2, 3) for j in (0, 1)])
+
+
+LOOK = len(look())
 
 
 class New(unittest.TestCase):
@@ -79,8 +60,8 @@ class More(unittest.TestCase):
     def test_empty_text(self):
         self.assertEqual(ask(more(""), text(), sizes()), [[0], [0], NO_SIZES])
         told = ask(take(WHOLE), *look(), more(""), *look())
-        self.assertEqual(told[23], [0])
-        self.assertEqual(told[1:23], told[24:])
+        self.assertEqual(told[LOOK + 1], [0])
+        self.assertEqual(told[1:LOOK + 1], told[LOOK + 2:])
 
     def test_lines_need_what_is_held(self):
         parts = ["town t\n", "code c\n", "street s\n", "span odd 1 9 c 0 0\n", "letters 5 a b\n", "boxes 1 1 c 0 5\n",
@@ -116,8 +97,8 @@ class More(unittest.TestCase):
                         "letters 9 a b\nletters 9 b c\n", "town t", "town t\ncode 12a\nstreet s\nletters 9 a a\n",
                         "boxes 1 65520 12a 0 0\nletters 9 a a\n"):
             told = ask(take(WHOLE), *look(), more(refused), *look())
-            self.assertEqual(told[23][0], -6)
-            self.assertEqual(told[1:23], told[24:])
+            self.assertEqual(told[LOOK + 1][0], -6)
+            self.assertEqual(told[1:LOOK + 1], told[LOOK + 2:])
 
     def test_after_a_refusal_the_lines_are_still_free(self):
         free = "boxes 1 9 12a 1 0\nletters 9 b c\n"
